@@ -3,6 +3,7 @@ package circ
 import (
 	"bauta/api"
 	"bauta/flow"
+	"bauta/gate"
 )
 
 // sel is the function that has no expression.
@@ -130,7 +131,7 @@ func (b *builder) add(g api.Gate) int {
 	if len(b.Gates) == api.MaxBuilt {
 		panic(full{b.place})
 	}
-	g.Secret = secret(b.Gates, g)
+	g.Secret = gate.Secret(b.Gates, g)
 	b.Gates = append(b.Gates, g)
 	return len(b.Gates) - 1
 }
